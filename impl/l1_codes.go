@@ -229,13 +229,18 @@ func ReverseBits(n int, width int) (int, bool) {
 	return reverse(n, width), true
 }
 
+// bytesFor returns how many bytes have room for bits.
+func bytesFor(bits int) int {
+	return (bits + byteBits - 1) / byteBits
+}
+
 // PackBits puts bits into bytes.
 func PackBits(order int, bits string) (string, bool) {
 	o := bitOrder(order)
 	if !o.valid() || !BitsValid(bits) {
 		return "", false
 	}
-	packed := make([]byte, 0, (len(bits)+byteBits-1)/byteBits)
+	packed := make([]byte, 0, bytesFor(len(bits)))
 	for at := 0; at < len(bits); at += byteBits {
 		digits := bits[at:min(at+byteBits, len(bits))]
 		packed = append(packed, byte(o.number(digits, byteBits)))
